@@ -22,6 +22,8 @@ WORDS = (
 ).split()
 NOT_NAMES = set("register mro elements open input version_info with_traceback add_note".split())
 LISTS_ONLY = set("any all min max sum sorted".split())
+AT_ONCE = set("zip enumerate reversed range".split())
+METHODS = set("append copy count extend find get index insert items join keys pop replace split values".split())
 
 
 def tree_of(path):
@@ -41,6 +43,43 @@ def names_of(tree):
             yield node.name
         elif isinstance(node, ast.ExceptHandler) and node.name is not None:
             yield node.name
+
+
+def imports_of(tree):
+    """Pairs of a module's file and a name imported from it."""
+    for node in tree.body:
+        if isinstance(node, ast.ImportFrom):
+            yield from ((node.module.split(".")[1], alias.name) for alias in node.names)
+
+
+def top_names(tree):
+    """The names bound at module level, those of imports left out, each as often as it is bound."""
+    for node in tree.body:
+        if isinstance(node, (ast.FunctionDef, ast.ClassDef)):
+            yield node.name
+        elif isinstance(node, ast.Assign):
+            yield node.targets[0].id
+
+
+def local_names(tree):
+    """The names of parameters, local variables, loops and comprehensions."""
+    for function in ast.walk(tree):
+        if isinstance(function, (ast.FunctionDef, ast.Lambda)):
+            for node in ast.walk(function):
+                if isinstance(node, ast.arg):
+                    yield node.arg
+                elif isinstance(node, ast.Name) and isinstance(node.ctx, ast.Store):
+                    yield node.id
+
+
+def reached(graph, start):
+    """The files that a file imports from, directly or through others."""
+    seen, left = set(), [start]
+    while left:
+        for name in graph[left.pop()] - seen:
+            seen.add(name)
+            left.append(name)
+    return seen
 
 
 class Form(unittest.TestCase):
@@ -88,6 +127,63 @@ class Form(unittest.TestCase):
                     self.assertNotIn(name, NOT_NAMES)
                     self.assertRegex(name, r"\A([A-Za-z][A-Za-z0-9_]*|__[a-z]+__)\Z")
 
+    def test_module_level(self):
+        for path in FILES:
+            tree = tree_of(path)
+            bound = [*top_names(tree), *[name for module, name in imports_of(tree)]]
+            with self.subTest(path.name):
+                self.assertEqual(sorted(set(bound)), sorted(bound))
+                for node in tree.body[1:]:
+                    self.assertIsInstance(node, (ast.ImportFrom, ast.FunctionDef, ast.ClassDef, ast.Assign))
+                    for part in ast.walk(node) if isinstance(node, ast.Assign) else ():
+                        self.assertNotIsInstance(part, (ast.Call, ast.ListComp, ast.Set))
+
+    def test_imports_name_the_defining_file_and_make_no_ring(self):
+        trees = {path.stem: tree_of(path) for path in FILES}
+        graph = {stem: {module for module, name in imports_of(tree)} for stem, tree in trees.items()}
+        for stem, tree in trees.items():
+            with self.subTest(stem):
+                self.assertNotIn(stem, reached(graph, stem))
+                for module, name in imports_of(tree):
+                    self.assertIn(name, list(top_names(trees[module])))
+
+    def test_local_names_mean_nothing_else(self):
+        for path in FILES:
+            tree = tree_of(path)
+            taken = set(dir(builtins)) | {name for module, name in imports_of(tree)} | set(top_names(tree))
+            with self.subTest(path.name):
+                self.assertEqual(set(local_names(tree)) & taken, set())
+
+    def test_methods_and_attributes(self):
+        methods, stored, read = set(), set(), set()
+        for path in FILES:
+            for node in ast.walk(tree_of(path)):
+                if isinstance(node, ast.ClassDef):
+                    methods |= {part.name for part in node.body if isinstance(part, ast.FunctionDef)}
+                elif isinstance(node, ast.Attribute):
+                    (stored if isinstance(node.ctx, ast.Store) else read).add(node.attr)
+        self.assertEqual(methods & stored, set())
+        self.assertEqual(stored & METHODS, set())
+        self.assertEqual(read - methods - stored - METHODS, set())
+
+    def test_errors_are_raised_on_the_spot_and_only_own_ones_are_caught(self):
+        for path in FILES:
+            for node in ast.walk(tree_of(path)):
+                with self.subTest(path.name, line=getattr(node, "lineno", 0)):
+                    if isinstance(node, ast.ExceptHandler):
+                        caught = {part.id for part in ast.walk(node.type) if isinstance(part, ast.Name)}
+                        self.assertEqual(caught & set(dir(builtins)), set())
+                    elif isinstance(node, ast.Raise) and node.exc is not None:
+                        self.assertIsInstance(node.exc, ast.Call)
+                        self.assertIsInstance(node.exc.func, ast.Name)
+
+    def test_double_underscore_methods_assign_nothing(self):
+        for path in FILES:
+            for node in ast.walk(tree_of(path)):
+                if isinstance(node, ast.FunctionDef) and node.name in ("__eq__", "__len__", "__str__"):
+                    with self.subTest(path.name, function=node.name):
+                        self.assertEqual([type(part) for part in node.body], [ast.Return])
+
     def test_functions_are_small(self):
         for path in FILES:
             for node in ast.walk(tree_of(path)):
@@ -117,6 +213,8 @@ class Form(unittest.TestCase):
         elif isinstance(node, ast.Call) and isinstance(node.func, ast.Name) and node.func.id in LISTS_ONLY:
             # The book compares by its own __eq__, and beside such a class these take lists.
             self.assertFalse(any(isinstance(part, ast.GeneratorExp) for part in node.args))
+        elif isinstance(node, (ast.Assign, ast.Return)) and isinstance(node.value, ast.Call):
+            self.assertNotIn(getattr(node.value.func, "id", None), AT_ONCE)
 
 
 if __name__ == "__main__":
