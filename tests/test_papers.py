@@ -136,7 +136,9 @@ class Judged(Asking):
             self.assert_judged(False, makes_hold, 5, 2, ((1, 2),), (1, 2), thing)
         self.assert_judged(False, makes_hold, 5, 2, ((1, 2),), (0, 0), (False,))
         self.assert_judged(True, parted_hold, 5, 2, ((1, 0),), (0, 1), ((0, 0), (0, 1)))
-        for thing in ([(0, 0), (0, 1)], ([0, 0], (0, 1)), ((0, 0), (0, True)), ((0, 0), (0, 6)), ((0, 0), (0, 1), (0, 1))):
+        for thing in (
+            [(0, 0), (0, 1)], ([0, 0], (0, 1)), ((0, 0), (0, True)), ((0, 0), (0, 6)), ((0, 0), (0, 1), (0, 1)),
+        ):
             self.assert_judged(False, parted_hold, 5, 2, ((1, 0),), (0, 1), thing)
 
 

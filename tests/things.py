@@ -1,6 +1,7 @@
 """What the tests hand in where the document says "whatever it is", and what they reckon by themselves."""
 
 import itertools
+import re
 import unittest
 
 
@@ -168,3 +169,187 @@ def bent(thing):
         yield from ("", thing + "a", thing.upper(), thing[::-1], thing[:-1], [thing], (thing,), None, 0, thing * 9)
     else:
         yield from (thing + 1, thing - 1, 0, 1, -1, 101, 10 ** 29, bool(thing), str(thing), [thing], (thing,), None)
+
+
+def plain_of(p, n, rows):
+    """The plain form of what the rows make, reckoned place by place."""
+    left, done = [list(row) for row in rows], []
+    for at in range(n):
+        with_rest = [row for row in left if row[at]]
+        if with_rest:
+            left.remove(with_rest[0])
+            first = [rest * pow(with_rest[0][at], -1, p) % p for rest in with_rest[0]]
+            left, done = [
+                [[(b - row[at] * a) % p for a, b in zip(first, row)] for row in part] for part in (left, done)
+            ]
+            done.append(first)
+    return tuple(map(tuple, done))
+
+
+def led_by_hand(p, place, row, one):
+    """Point 11's exchange: the old number there is the new one less the rest of the row, by the row's rest there."""
+    back = pow(row[place], -1, p)
+    return tuple(
+        one[place] * back % p if at == place else (one[at] - one[place] * back * row[at]) % p for at in range(len(one))
+    )
+
+
+def is_small_name(thing):
+    return type(thing) is str and re.fullmatch("[a-z]{1,8}", thing) is not None
+
+
+def group_refused(there, hands, least):
+    """How a group is refused by those who are there, or None."""
+    names = type(hands) is tuple and all(map(is_small_name, hands))
+    if not names or sorted(set(hands)) != list(hands) or len(hands) < least:
+        return ("NoGroup",)
+    for hand in hands:
+        if hand not in there:
+            return ("NoHand", hand)
+    return None
+
+
+class Model:
+    """The test's own book: what was heard at each moment, by lists and dicts."""
+
+    def __init__(self, p, n, hands):
+        self.p = p
+        self.moments = [(n, (), dict(hands))]
+        self.deeds = []
+
+    def refusal(self, deed):
+        """The refusal of a deed as its class's name and its fields, or None."""
+        n, called, hands = self.moments[-1]
+        if len(self.deeds) >= 60:
+            return ("Long",)
+        word, *things = deed
+        if word in ("call", "go"):
+            if not (type(things[0]) is str and things[0] in hands):
+                return ("NoHand", things[0])
+        if word in ("whisper", "meet"):
+            told = group_refused(hands, things[0], 1 if word == "whisper" else 2)
+            if told is not None:
+                return told
+        if word == "change" and not (type(things[0]) is int and 0 <= things[0] < n):
+            return ("NoPlace", things[0])
+        if word in ("call", "whisper", "change") and not is_rests(self.p, n, things[1]):
+            return ("NoRow",)
+        return self.last_refusal(word, things)
+
+    def last_refusal(self, word, things):
+        n, called, hands = self.moments[-1]
+        if word == "call" and not has_row(self.p, hands[things[0]], things[1]):
+            return ("NotKnown", things[0])
+        if word == "change" and things[1][things[0]] == 0:
+            return ("NoTurn",)
+        if word == "come":
+            return self.come_refused(*things)
+        if word == "hide" and n == 8:
+            return ("Full",)
+        if word == "go" and len(hands) == 2:
+            return ("Few",)
+        return None
+
+    def come_refused(self, hand, rows):
+        n, called, hands = self.moments[-1]
+        if not is_small_name(hand):
+            return ("NoName", hand)
+        if hand in hands:
+            return ("Taken", hand)
+        if type(rows) is not tuple or len(rows) > 8 or not all(is_rests(self.p, n, row) for row in rows):
+            return ("NoRow",)
+        return ("Full",) if len(hands) == 6 else None
+
+    def do(self, deed):
+        n, called, hands = self.moments[-1]
+        word, *things = deed
+        if word == "call":
+            called, hands = called + (things[1],), {name: rows + (things[1],) for name, rows in hands.items()}
+        elif word == "whisper":
+            hands = {name: rows + (things[1],) * (name in things[0]) for name, rows in hands.items()}
+        elif word == "meet":
+            hands = self.met(things[0])
+        elif word == "hide":
+            n, called = n + 1, tuple(row + (0,) for row in called)
+            hands = {name: tuple(row + (0,) for row in rows) for name, rows in hands.items()}
+        elif word == "change":
+            called = tuple(led_by_hand(self.p, *things, row) for row in called)
+            hands = {name: tuple(led_by_hand(self.p, *things, row) for row in rows) for name, rows in hands.items()}
+        elif word == "come":
+            hands = {**hands, things[0]: things[1] + plain_of(self.p, n, called)}
+        else:
+            hands = {name: rows for name, rows in hands.items() if name != things[0]}
+        self.moments.append((n, called, hands))
+        self.deeds.append(deed)
+
+    def met(self, names):
+        n, called, hands = self.moments[-1]
+        together = plain_of(self.p, n, sum([hands[name] for name in names], ()))
+        told = dict(hands)
+        for name in names:
+            for row in together:
+                if not has_row(self.p, told[name], row):
+                    told[name] += (row,)
+        return told
+
+    def back(self):
+        self.moments.pop()
+        self.deeds.pop()
+
+    def drawn_deed(self, rng):
+        """A deed that will most often be let by."""
+        n, called, hands = self.moments[-1]
+        word = rng.choice(("call", "call", "call", "whisper", "whisper", "meet", "hide", "change", "come", "go"))
+        names = tuple(sorted(rng.sample(sorted(hands), rng.randrange(1, len(hands) + 1))))
+        row = drawn_row(rng, self.p, n)
+        if word == "call":
+            heard = hands[names[0]]
+            known = combined(self.p, n, heard, drawn_row(rng, self.p, len(heard)))
+            return (word, names[0], rng.choice((known, known, known, row)))
+        if word == "whisper":
+            return (word, names, row)
+        if word == "change":
+            return (word, rng.randrange(n), row)
+        if word == "come":
+            name = rng.choice(("abe", "cid", "dot", "eve", "z", "abcdefgh"))
+            return (word, name, drawn_rows(rng, self.p, n, rng.randrange(4)))
+        return {"meet": (word, names), "hide": (word,), "go": (word, names[0])}[word]
+
+
+def drawn_model(rng, p, n, many):
+    """A model of so many hands with some rows each."""
+    names = sorted(rng.sample(("ann", "bob", "cy", "dan", "eli", "fay", "guy", "abcdefgh"), many))
+    return Model(p, n, tuple((name, drawn_rows(rng, p, n, rng.randrange(4))) for name in names))
+
+
+def first_hands(model):
+    return tuple(model.moments[0][2].items())
+
+
+def done_by(book, deed):
+    """A deed handed to the book's own method."""
+    return getattr(book, deed[0])(*deed[1:])
+
+
+def refused_by(call):
+    """The refusal that a call ends in, as its class's name and its fields; None where it tells None."""
+    try:
+        told = call()
+    except (ValueError, LookupError) as error:
+        return (type(error).__name__, *vars(error).values())
+    if told is not None:
+        raise AssertionError(f"a deed told {told!r}")
+    return None
+
+
+def seen_of(book):
+    """All that a book tells of itself now, but for its log."""
+    names = book.names()
+    heard = [book.heard((name,)) for name in names]
+    known = [book.known((name,)) for name in names]
+    return (names, heard, known, book.heard(()), book.known(()), len(book), book.its_deeds(), str(book))
+
+
+def only_tuples(thing):
+    """Whether nothing within a thing that was told can be changed."""
+    return all(map(only_tuples, thing)) if type(thing) is tuple else type(thing) in (int, str, bool)
