@@ -66,6 +66,14 @@ def within(p, room, row):
     return is_noughts(left_of(p, room, row))
 
 
+def first_outside(p, room, rows):
+    """The first of the rows that the room hasn't; None where it has them all."""
+    for row in rows:
+        if not within(p, room, row):
+            return row
+    return None
+
+
 def inside(p, one, other):
     """Whether the other room has each row of the one."""
     return all([within(p, other, row) for row in one])

@@ -23,7 +23,9 @@ WORDS = (
 NOT_NAMES = set("register mro elements open input version_info with_traceback add_note".split())
 LISTS_ONLY = set("any all min max sum sorted".split())
 AT_ONCE = set("zip enumerate reversed range".split())
-METHODS = set("append copy count extend find get index insert items join keys pop replace split values".split())
+METHODS = set(
+    "append copy count extend find get index insert items join keys partition pop replace split values".split()
+)
 
 
 def tree_of(path):

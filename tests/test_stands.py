@@ -8,7 +8,7 @@ from opencalls import errors
 from opencalls.books import Book
 from opencalls.stands import at_one, behind, is_stand, size_of
 from things import (
-    LONG_NUMBERS, TEST_PRIMES, Asking, bent, combined, done_by, drawn_model, drawn_row, drawn_rows, first_hands,
+    LONG_NUMBERS, TEST_PRIMES, Asking, bent, combined, done_by, drawn_model, drawn_row, drawn_stands, first_hands,
     has_row, is_plain, is_small_name, odd_things, only_tuples, plain_of, rank_of,
 )
 
@@ -31,21 +31,6 @@ def is_right(thing):
     if sorted(set(names)) != names or not all(is_plain(p, n, room) for room in rooms):
         return False
     return all(has_row(p, room, row) for room in rooms for row in known)
-
-
-def drawn_stand(rng, p, n, many):
-    known = drawn_rows(rng, p, n, rng.randrange(n))
-    names = sorted(rng.sample(("ann", "bob", "cy", "dan", "eli", "fay", "z", "abcdefgh"), many))
-    hands = [(name, plain_of(p, n, known + drawn_rows(rng, p, n, rng.randrange(n + 1)))) for name in names]
-    return (p, n, plain_of(p, n, known), tuple(hands))
-
-
-def drawn_stands(seed, each, primes=(5, 7, 31, 101)):
-    rng = random.Random(seed)
-    for p in primes:
-        for n in range(1, 9):
-            for _ in range(each):
-                yield rng, drawn_stand(rng, p, n, rng.randrange(2, 7))
 
 
 class IsStand(Asking):

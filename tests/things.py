@@ -1,6 +1,8 @@
 """What the tests hand in where the document says "whatever it is", and what they reckon by themselves."""
 
+import functools
 import itertools
+import random
 import re
 import unittest
 
@@ -353,3 +355,181 @@ def seen_of(book):
 def only_tuples(thing):
     """Whether nothing within a thing that was told can be changed."""
     return all(map(only_tuples, thing)) if type(thing) is tuple else type(thing) in (int, str, bool)
+
+
+def drawn_stand(rng, p, n, many):
+    known = drawn_rows(rng, p, n, rng.randrange(n))
+    names = sorted(rng.sample(("ann", "bob", "cy", "dan", "eli", "fay", "z", "abcdefgh"), many))
+    hands = [(name, plain_of(p, n, known + drawn_rows(rng, p, n, rng.randrange(n + 1)))) for name in names]
+    return (p, n, plain_of(p, n, known), tuple(hands))
+
+
+def quiet_stand(rng, p, n, many):
+    """A drawn stand in which nothing has been called."""
+    names = sorted(rng.sample(("ann", "bob", "cy", "dan", "eli", "fay", "z", "abcdefgh"), many))
+    return (p, n, (), tuple((name, plain_of(p, n, drawn_rows(rng, p, n, rng.randrange(1, 4)))) for name in names))
+
+
+def drawn_stands(seed, each, primes=(5, 7, 31, 101)):
+    rng = random.Random(seed)
+    for p in primes:
+        for n in range(1, 9):
+            for _ in range(each):
+                yield rng, drawn_stand(rng, p, n, rng.randrange(2, 7))
+
+
+def names_of(stand):
+    return tuple(name for name, room in stand[3])
+
+
+def groups_in(stand):
+    """All groups of hands of the stand."""
+    names = names_of(stand)
+    return [group for many in range(2, len(names) + 1) for group in itertools.combinations(names, many)]
+
+
+def drawn_group(rng, stand):
+    """A group of hands of the stand, most often all of them."""
+    return rng.choice((names_of(stand), rng.choice(groups_in(stand))))
+
+
+def parts_in(group):
+    """All parts but the whole group, in the order of the tuples of names."""
+    return sorted(part for many in range(1, len(group)) for part in itertools.combinations(group, many))
+
+
+@functools.cache
+def splits_of(many):
+    """All ways to put the numbers up to many into parts, as sets of sets."""
+    if many == 0:
+        return frozenset({frozenset()})
+    found = set()
+    for split in splits_of(many - 1):
+        found.add(split | {frozenset({many - 1})})
+        found |= {(split - {part}) | {part | {many - 1}} for part in split}
+    return frozenset(found)
+
+
+@functools.cache
+def partings_in(group):
+    """All partings of the group, rising, by the test's own reckoning."""
+    named = [[tuple(sorted(group[k] for k in part)) for part in split] for split in splits_of(len(group))]
+    return tuple(sorted(tuple(sorted(parts)) for parts in named if len(parts) > 1))
+
+
+def size_in(stand, names):
+    """How much these hands together know beyond the calls."""
+    p, n, known, hands = stand
+    rows = known + sum([room for name, room in hands if name in names], ())
+    return rank_of(p, rows) - rank_of(p, known)
+
+
+def sizes_in(stand, group):
+    """The sizes of all parts of the group and of none."""
+    return {part: size_in(stand, part) for part in [(), group, *parts_in(group)]}
+
+
+def bounds_in(stand, group):
+    """All partings, rising, with their bounds."""
+    sizes = sizes_in(stand, group)
+    k = sizes[group]
+    return {
+        parting: k - (sum(sizes[part] for part in parting) - k) // (len(parting) - 1) for parting in partings_in(group)
+    }
+
+
+def wants_in(stand, group):
+    """What is wanted of each part but the whole group, in the order of the tuples of names."""
+    sizes = sizes_in(stand, group)
+    return {part: sizes[group] - sizes[tuple(name for name in group if name not in part)] for part in parts_in(group)}
+
+
+def first_short(group, wants, numbers):
+    """The first part whose numbers come to less than is wanted of it, or None."""
+    own = dict(zip(group, numbers, strict=True))
+    for part, wanted in wants.items():
+        if sum(own[name] for name in part) < wanted:
+            return part
+    return None
+
+
+def called_in(stand, row):
+    """The stand behind a call of the row, whoever calls it."""
+    p, n, known, hands = stand
+    rooms = tuple((name, plain_of(p, n, room + (row,))) for name, room in hands)
+    return (p, n, plain_of(p, n, known + (row,)), rooms)
+
+
+def drawn_known(rng, stand, name):
+    """A row that the hand knows, now and then one that tells nothing."""
+    p, n, known, hands = stand
+    rows = rng.choice((dict(hands)[name],) * 5 + (known, ()))
+    return combined(p, n, rows, drawn_row(rng, p, len(rows)))
+
+
+def are_at_one(stand, group):
+    rooms = dict(stand[3])
+    return len({rooms[name] for name in group}) == 1
+
+
+def is_plan_in(stand, group, thing):
+    """Whether a thing is a plan, by the words of point 18, call by call."""
+    if type(thing) is not tuple:
+        return False
+    for call in thing:
+        if type(call) is not tuple or len(call) != 2 or type(call[0]) is not str or call[0] not in group:
+            return False
+        if not is_rests(stand[0], stand[1], call[1]) or not has_row(stand[0], dict(stand[3])[call[0]], call[1]):
+            return False
+        stand = called_in(stand, call[1])
+    return are_at_one(stand, group)
+
+
+def common_in(stand, group):
+    """All rows that each of the group knows, one by one; for few numbers only."""
+    p, n, known, hands = stand
+    return set.intersection(*[span_of(p, n, room) for name, room in hands if name in group])
+
+
+def one_call_more(stand, group):
+    """All rooms that the listener can know behind one call more of the group, one by one; for few numbers only."""
+    p, n, known, hands = stand
+    rows = {row for name, room in hands if name in group for row in span_of(p, n, room)}
+    # A row and its multiples tell the same, so one of them is enough.
+    return {plain_of(p, n, known + (row,)) for row in rows if any(row) and next(filter(None, row)) == 1}
+
+
+def all_calls(stand, group):
+    """By how many calls the group can be at one, and how many secrets it can have, by all calls gone through."""
+    seen, here, many, least, best = {stand[2]}, [stand], 0, None, 0
+    while here:
+        if least is None and any(are_at_one(one, group) for one in here):
+            least = many
+        best = max([best, *[secrets_in(one, group) for one in here]])
+        told = set().union(*[one_call_more(one, group) for one in here]) - seen
+        seen |= told
+        here, many = [opened(stand, known) for known in sorted(told)], many + 1
+    return least, best
+
+
+def opened(stand, known):
+    """The stand where the listener, and so each hand, knows all this too."""
+    p, n, known_ahead, hands = stand
+    return (p, n, known, tuple((name, plain_of(p, n, room + known)) for name, room in hands))
+
+
+def secrets_in(stand, group):
+    """How many secrets at once the group has: the rows that all know, by how many of them the listener knows."""
+    p, n, known, hands = stand
+    many, size = len(common_in(stand, group)) // p ** len(known), 0
+    while many > 1:
+        many, size = many // p, size + 1
+    return size
+
+
+def grouped_stands(seed, each, primes=(5, 7, 31, 101)):
+    """Drawn stands of two to six hands, each with a group; with calls, and with none at all."""
+    for rng, stand in drawn_stands(seed, each, primes):
+        yield rng, stand, drawn_group(rng, stand)
+        quiet = quiet_stand(rng, stand[0], stand[1], len(stand[3]))
+        yield rng, quiet, drawn_group(rng, quiet)
