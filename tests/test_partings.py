@@ -7,7 +7,8 @@ from opencalls.partings import bound, fewest, is_parting, measure, most, parting
 from opencalls.stands import behind
 from things import (
     LONG_NUMBERS, Asking, all_calls, bent, bounds_in, drawn_group, drawn_known, drawn_stand, drawn_stands,
-    grouped_stands, groups_in, names_of, odd_things, only_tuples, partings_in, quiet_stand, size_in, sizes_in,
+    grouped_stands, groups_in, names_of, odd_things, only_tuples, partings_in, pooled_stand, quiet_stand, size_in,
+    sizes_in,
 )
 
 GROUPS = (
@@ -218,8 +219,8 @@ class AllCallsGoneThrough(Asking):
 
     def test_by_5_and_few_numbers(self):
         rng, seen = random.Random(159), set()
-        for _ in range(60):
-            for draw in (drawn_stand, quiet_stand):
+        for _ in range(45):
+            for draw in (drawn_stand, quiet_stand, pooled_stand):
                 stand = draw(rng, 5, rng.choice((1, 2, 2, 3, 3, 3)), rng.randrange(2, 7))
                 group = drawn_group(rng, stand)
                 self.check(stand, group)

@@ -9,33 +9,15 @@ from opencalls.books import Book
 from opencalls.stands import at_one, behind, is_stand, size_of
 from things import (
     LONG_NUMBERS, TEST_PRIMES, Asking, bent, combined, done_by, drawn_model, drawn_row, drawn_stands, first_hands,
-    has_row, is_plain, is_small_name, odd_things, only_tuples, plain_of, rank_of,
+    has_row, is_right_stand, odd_things, only_tuples, plain_of, rank_of,
 )
 
 STAND = (5, 3, ((1, 0, 2),), (("ann", ((1, 0, 2),)), ("bob", ((1, 0, 2), (0, 1, 3))), ("cy", ((1, 0, 0), (0, 0, 1)))))
 
 
-def is_right(thing):
-    """Whether a thing is a stand, by the words of point 14."""
-    if type(thing) is not tuple or len(thing) != 4:
-        return False
-    p, n, known, hands = thing
-    if type(p) is not int or p not in TEST_PRIMES or type(n) is not int or n not in range(1, 9):
-        return False
-    if not is_plain(p, n, known) or type(hands) is not tuple or len(hands) not in range(2, 7):
-        return False
-    if not all(type(pair) is tuple and len(pair) == 2 and is_small_name(pair[0]) for pair in hands):
-        return False
-    names = [name for name, room in hands]
-    rooms = [room for name, room in hands]
-    if sorted(set(names)) != names or not all(is_plain(p, n, room) for room in rooms):
-        return False
-    return all(has_row(p, room, row) for room in rooms for row in known)
-
-
 class IsStand(Asking):
     def judge(self, thing):
-        self.assert_judged(is_right(thing), is_stand, thing)
+        self.assert_judged(is_right_stand(thing), is_stand, thing)
 
     def test_drawn_stands(self):
         for rng, stand in drawn_stands(141, 4):
@@ -137,7 +119,7 @@ class Behind(Asking):
                 told = self.ask(behind, book.stand(), name, row)
                 book.call(name, row)
                 self.assertEqual(told, book.stand())
-                self.assertTrue(only_tuples(told) and is_right(told))
+                self.assertTrue(only_tuples(told) and is_right_stand(told))
 
     def test_reckoned(self):
         for rng, stand in drawn_stands(145, 3):

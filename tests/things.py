@@ -370,6 +370,15 @@ def quiet_stand(rng, p, n, many):
     return (p, n, (), tuple((name, plain_of(p, n, drawn_rows(rng, p, n, rng.randrange(1, 4)))) for name in names))
 
 
+def pooled_stand(rng, p, n, many):
+    """A drawn stand in which each hand knows most rows of one pool, so that many know the same."""
+    names = sorted(rng.sample(("ann", "bob", "cy", "dan", "eli", "fay", "z", "abcdefgh"), many))
+    pool = drawn_rows(rng, p, n, n + 1)
+    known = plain_of(p, n, tuple(row for row in pool if rng.random() < 0.15))
+    rooms = [plain_of(p, n, known + tuple(row for row in pool if rng.random() < 0.7)) for _ in names]
+    return (p, n, known, tuple(zip(names, rooms)))
+
+
 def drawn_stands(seed, each, primes=(5, 7, 31, 101)):
     rng = random.Random(seed)
     for p in primes:
@@ -528,8 +537,27 @@ def secrets_in(stand, group):
 
 
 def grouped_stands(seed, each, primes=(5, 7, 31, 101)):
-    """Drawn stands of two to six hands, each with a group; with calls, and with none at all."""
+    """Drawn stands of two to six hands, each with a group; with calls, with none at all, with much in common."""
     for rng, stand in drawn_stands(seed, each, primes):
         yield rng, stand, drawn_group(rng, stand)
-        quiet = quiet_stand(rng, stand[0], stand[1], len(stand[3]))
-        yield rng, quiet, drawn_group(rng, quiet)
+        for draw in (quiet_stand, pooled_stand):
+            other = draw(rng, stand[0], stand[1], len(stand[3]))
+            yield rng, other, drawn_group(rng, other)
+
+
+def is_right_stand(thing):
+    """Whether a thing is a stand, by the words of point 14."""
+    if type(thing) is not tuple or len(thing) != 4:
+        return False
+    p, n, known, hands = thing
+    if type(p) is not int or p not in TEST_PRIMES or type(n) is not int or n not in range(1, 9):
+        return False
+    if not is_plain(p, n, known) or type(hands) is not tuple or len(hands) not in range(2, 7):
+        return False
+    if not all(type(pair) is tuple and len(pair) == 2 and is_small_name(pair[0]) for pair in hands):
+        return False
+    names = [name for name, room in hands]
+    rooms = [room for name, room in hands]
+    if sorted(set(names)) != names or not all(is_plain(p, n, room) for room in rooms):
+        return False
+    return all(has_row(p, room, row) for room in rooms for row in known)
