@@ -1,15 +1,14 @@
 """Point 13: what a book is asked, now and of each moment."""
 
 import itertools
-import random
 import unittest
 
 from opencalls.books import Book
 from opencalls.rooms import shared
 from opencalls.stands import is_stand
 from things import (
-    LONG_NUMBERS, Asking, combined, done_by, drawn_model, drawn_row, first_hands, has_row, is_plain, is_rests,
-    odd_things, only_tuples, plain_of, rank_of, seen_of, span_of, worth_at,
+    LONG_NUMBERS, Asking, combined, done_by, drawn_books, drawn_row, has_row, is_plain, is_rests, odd_things,
+    only_tuples, plain_of, rank_of, seen_of, span_of, worth_at,
 )
 
 HANDS = (("ann", ((1, 0),)), ("bob", ((0, 1),)), ("cy", ()))
@@ -24,20 +23,6 @@ def book_by(deeds):
     for deed in deeds:
         done_by(book, deed)
     return book
-
-
-def drawn_books(seed, many, steps, primes=(5, 7, 31, 101)):
-    """Books with the models that they were led along with."""
-    rng = random.Random(seed)
-    for _ in range(many):
-        model = drawn_model(rng, rng.choice(primes), rng.randrange(1, 7), rng.randrange(2, 7))
-        book = Book(model.p, model.moments[0][0], first_hands(model))
-        for _ in range(steps):
-            deed = model.drawn_deed(rng)
-            if model.refusal(deed) is None:
-                done_by(book, deed)
-                model.do(deed)
-        yield rng, book, model
 
 
 def groups_of(names):

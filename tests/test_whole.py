@@ -13,23 +13,9 @@ from opencalls.shares import shares, shares_hold, wanting
 from opencalls.stands import at_one, behind, is_stand
 from opencalls.texts import read_stand, stand_text
 from things import (
-    Asking, are_at_one, combined, done_by, drawn_model, drawn_row, first_hands, has_row, is_plan_in, partings_in,
+    Asking, are_at_one, combined, done_by, drawn_books, drawn_row, first_hands, has_row, is_plan_in, partings_in,
     rank_of, size_in,
 )
-
-
-def drawn_books(seed, many, steps, primes=(5, 7, 31, 101), numbers=7):
-    """Books with some deeds, and the models that they were led along with."""
-    rng = random.Random(seed)
-    for _ in range(many):
-        model = drawn_model(rng, rng.choice(primes), rng.randrange(1, numbers), rng.randrange(2, 7))
-        book = Book(model.p, model.moments[0][0], first_hands(model))
-        for _ in range(steps):
-            deed = model.drawn_deed(rng)
-            if model.refusal(deed) is None:
-                done_by(book, deed)
-                model.do(deed)
-        yield rng, book, model
 
 
 def group_of(rng, names):

@@ -6,6 +6,8 @@ import random
 import re
 import unittest
 
+from opencalls.books import Book
+
 
 def nested(depth, wrap):
     thing = wrap(None)
@@ -331,6 +333,20 @@ def first_hands(model):
 def done_by(book, deed):
     """A deed handed to the book's own method."""
     return getattr(book, deed[0])(*deed[1:])
+
+
+def drawn_books(seed, many, steps, primes=(5, 7, 31, 101)):
+    """Books with the models that they were led along with, deed by deed."""
+    rng = random.Random(seed)
+    for _ in range(many):
+        model = drawn_model(rng, rng.choice(primes), rng.randrange(1, 7), rng.randrange(2, 7))
+        book = Book(model.p, model.moments[0][0], first_hands(model))
+        for _ in range(steps):
+            deed = model.drawn_deed(rng)
+            if model.refusal(deed) is None:
+                done_by(book, deed)
+                model.do(deed)
+        yield rng, book, model
 
 
 def refused_by(call):
